@@ -1,0 +1,1 @@
+"""Trendhouse: what rises, falls or stands, and what may come next."""
