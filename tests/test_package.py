@@ -13,6 +13,10 @@ INTERFACE = {
     "houses.py": {"House": None, "House.__init__": ["self", "things", "ties"], "House.things": ["self"],
                   "House.ties": ["self"]},
     "rooms.py": {"broken": ["house", "room"], "rooms": ["house"]},
+    "moves.py": {"nexts": ["house", "room"], "why_not": ["house", "room", "other"]},
+    "coming.py": {"reach": ["house", "room"], "comes_by": ["house", "room", "goals"]},
+    "runs.py": {"passed": ["house", "rows"], "kept": ["house", "rows"], "passing": ["house", "room", "other"]},
+    "notes.py": {"written": ["house"], "read": ["text"]},
 }
 
 

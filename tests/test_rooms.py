@@ -1,34 +1,16 @@
 """Promises 1, 4 and 5: what is a room, which ties it keeps, and all rooms that keep all."""
 
-import random
 import unittest
 from itertools import product
 
-from samples import THINGS, all_ties, every_pair, every_room, is_pair, keeps
-from trendhouse.errors import BadHouse, BadRoom, BadRun, BadText, TrendError
+from samples import THINGS, Refusing, all_ties, every_pair, every_room, first_not_kept, is_pair, keeps, some_houses
+from trendhouse.errors import BadRoom
 from trendhouse.houses import House
 from trendhouse.rooms import broken, rooms
 
 # Three things that may all do all: 0 is a, 1 is b, 2 is c; 0 and 1 are places below and at the mark.
 ABC = [("a", (0,)), ("b", (0,)), ("c", (0,))]
 TRENDS = (-1, 0, 1)
-
-
-def some_houses():
-    """Houses with no tie, each one tie, and some with two to six."""
-    chosen = random.Random(5)
-    for things in THINGS:
-        ties = all_ties(things)
-        yield things, []
-        singles = ties if len(ties) <= 20 else chosen.sample(ties, 20)
-        for tie in singles:
-            yield things, [tie]
-        for many in range(2, 7):
-            yield things, [chosen.choice(ties) for _ in range(many)]
-
-
-def first_not_kept(things, ties, room):
-    return next((number for number, tie in enumerate(ties) if not keeps(things, room, tie)), None)
 
 
 class AllRooms(unittest.TestCase):
@@ -136,14 +118,7 @@ class Broken(unittest.TestCase):
         self.assertIsNone(broken(house, ((0, 1), (0, 1), (2, 1))))
 
 
-class NoRooms(unittest.TestCase):
-    def refused(self, house, room):
-        with self.assertRaises(BadRoom) as caught:
-            broken(house, room)
-        self.assertIsInstance(caught.exception, TrendError)
-        self.assertIsInstance(caught.exception, ValueError)
-        self.assertNotIsInstance(caught.exception, (BadHouse, BadRun, BadText))
-
+class NoRooms(Refusing):
     def test_each_place_and_trend_is_let_be_or_refused(self):
         for things in ([("a", (0,))], [("a", (-99, 99))], [("a", (0, 2, 4))]):
             for pair in every_pair(things[0][1]):
@@ -151,7 +126,7 @@ class NoRooms(unittest.TestCase):
                     if is_pair(things[0][1], pair):
                         broken(House(things, ties), (pair,))
                     else:
-                        self.refused(House(things, ties), (pair,))
+                        self.refused(broken, House(things, ties), (pair,))
 
     def test_a_bad_one_anywhere(self):
         good = ((0, 1), (2, 0), (4, -1))
@@ -161,7 +136,7 @@ class NoRooms(unittest.TestCase):
                         (0, (-1, 0)), (1, (-2, 1)), (2, (0, 2)), (1, (0, -2)), (2, (10 ** 30, 0))):
             room = list(good)
             room[at] = bad
-            self.refused(house, tuple(room))
+            self.refused(broken, house, tuple(room))
 
     def test_too_few_and_too_many(self):
         for many in (1, 2, 3):
@@ -169,11 +144,11 @@ class NoRooms(unittest.TestCase):
                 house = House(ABC[:many], ties)
                 for others in (0, 1, 2, 3, 4, 5):
                     if others != many:
-                        self.refused(house, ((0, 0),) * others)
+                        self.refused(broken, house, ((0, 0),) * others)
 
     def test_a_room_of_another_house(self):
         house = House(ABC[:2], [])
-        self.refused(house, ((0, 1), (3, 0)))
+        self.refused(broken, house, ((0, 1), (3, 0)))
         self.assertIsNone(broken(House([("a", (0,)), ("b", (0, 2))], []), ((0, 1), (3, 0))))
 
 

@@ -29,9 +29,14 @@ def check_room(house, room):
 
 def all_rooms(house):
     """All rooms of the house, rising, whether they keep its ties or not."""
+    return one_of_each([states(marks) for _, marks in house.things()])
+
+
+def one_of_each(lists):
+    """Each room with one state of each list, rising if the lists rise."""
     found = [()]
-    for _, marks in house.things():
-        found = [room + (state,) for room in found for state in states(marks)]
+    for choices in lists:
+        found = [room + (state,) for room in found for state in choices]
     return found
 
 
