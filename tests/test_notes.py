@@ -196,6 +196,16 @@ class Refusals(unittest.TestCase):
             house = read("\n".join(ROWS_OF_ALL[:at] + ROWS_OF_ALL[at + 1:]))
             self.assertEqual(house.ties(), TIES_OF_ALL[:at - 3] + TIES_OF_ALL[at - 2:])
 
+    def test_a_row_moved(self):
+        for at in range(3, 9):
+            for row in range(3):
+                rows = ROWS_OF_ALL[:at] + ROWS_OF_ALL[at + 1:]
+                rows.insert(row, ROWS_OF_ALL[at])
+                self.refused("\n".join(rows), first_bad_row("\n".join(rows)))
+        self.refused("with a b\nthing a 0\nthing b 0", 0)
+        self.refused("thing a 0\nover a 0\nthing b 0\nwith a b", 2)
+        self.assertEqual(read("thing b 0\nthing a 2\nunder b 0\nwith a b").ties(), [("under", 0, 0), ("with", 1, 0)])
+
     def test_a_row_twice(self):
         for at, row in enumerate(ROWS_OF_ALL):
             rows = ROWS_OF_ALL[:at] + [row] + ROWS_OF_ALL[at:]
